@@ -1,0 +1,1 @@
+"""Fewsumlots: sets whose sums are few."""
