@@ -71,6 +71,67 @@ def scattered_sets():
     return told
 
 
+def spoil(thing):
+    """Change each list in a thing, those within others too."""
+    if isinstance(thing, (list, tuple)):
+        for part in thing:
+            spoil(part)
+    if isinstance(thing, list):
+        thing.reverse()
+        thing.append("spoilt")
+
+
+def sets_of_many_forms():
+    """None, one, two and many numbers, even rows, rows with gaps, far numbers of either sign."""
+    return [
+        (), (0,), (-7,), (FAR,), (0, 1), (-5, 4), (-FAR, FAR), (0, 1, 2), (0, 1, 3), (-6, -2, 2, 6),
+        (0, 2, 4, 10), (3, 10, 17, 31, 38), (0, 6, 10, 15), (1, 2, 4, 8, 16, 32), (-FAR, 0, FAR),
+        (-FAR, -FAR + 1, 0, FAR), (FAR, 2 * FAR, 4 * FAR), tuple(range(-9, 9)), tuple(range(0, 40, 3)),
+    ]
+
+
+def things_of_other_kinds():
+    """Things that are none of whatever is asked for."""
+    told = things_that_are_no_numbers() + things_that_are_no_tuples() + [5, (1, 2, 3), [None], (None, None)]
+    endless = []
+    endless.append(endless)
+    return told + [endless, (endless, endless), [[], []], [()], ([], ()), ((), ()), ([True], [True])]
+
+
+def bent_number(number):
+    return [
+        number + 1, number - 1, -number, 2 * number + 3, number + FAR, True, False, None, str(number),
+        float(number), [number], (number,),
+    ]
+
+
+def bent_whole(thing):
+    """A list or tuple of the other kind, with a part out or twice, or two parts exchanged."""
+    kind = type(thing)
+    parts = list(thing)
+    other_kind = tuple if kind is list else list
+    told = [other_kind(parts), {at: part for at, part in enumerate(parts)}, None, repr(parts), len(parts)]
+    told += [kind(parts[:at] + parts[at + 1:]) for at in range(len(parts))]
+    told += [kind(parts[:at] + parts[at:at + 1] + parts[at:]) for at in range(len(parts))]
+    told += [kind(parts + [extra]) for extra in (0, None, [], ())]
+    for low, high in itertools.combinations(range(len(parts)), 2):
+        exchanged = list(parts)
+        exchanged[low], exchanged[high] = parts[high], parts[low]
+        told.append(kind(exchanged))
+    return told
+
+
+def bent(thing):
+    """A thing of lists, tuples and numbers bent at each of its places, one place at a time."""
+    if not isinstance(thing, (list, tuple)):
+        return bent_number(thing)
+    told = bent_whole(thing)
+    kind = type(thing)
+    for at, part in enumerate(thing):
+        told += [kind([*thing[:at], other, *thing[at + 1:]]) for other in bent(part)]
+    return told
+
+
 class Case(unittest.TestCase):
     def assert_refused(self, refusal, ask, *things):
         """The refusal is of this very class, under SetError and ValueError, and under no other."""
@@ -84,6 +145,40 @@ class Case(unittest.TestCase):
                 if other is not refusal:
                     self.assertNotIsInstance(error, other)
             return str(error)
+
+    def assert_needs_set(self, ask):
+        """What is no set is refused ahead of all else."""
+        for thing in things_that_are_no_sets() + [SIXTY_ONE, tuple(range(0, 9000, 3))]:
+            self.assert_refused(errors.NoSet, ask, thing)
+
+    def assert_needs_sets(self, ask):
+        """What is no set is refused ahead of all else, of two the first one ahead of the second."""
+        for thing in things_that_are_no_sets() + [SIXTY_ONE, tuple(range(0, 9000, 3))]:
+            for some in ((), (0,), (0, 1, 5), SIXTY):
+                self.assert_refused(errors.NoSet, ask, thing, some)
+                self.assert_refused(errors.NoSet, ask, some, thing)
+        too_many = self.assert_refused(errors.NoSet, ask, SIXTY_ONE, ())
+        no_set = self.assert_refused(errors.NoSet, ask, None, ())
+        self.assertNotEqual(too_many, no_set)
+        self.assertEqual(self.assert_refused(errors.NoSet, ask, SIXTY_ONE, None), too_many)
+        self.assertEqual(self.assert_refused(errors.NoSet, ask, None, SIXTY_ONE), no_set)
+
+    def assert_answer(self, answer, ask, *things):
+        """The answer is this truth itself, and what was handed in stays as it was."""
+        with self.subTest(ask=ask, things=things):
+            before = repr(things)
+            self.assertIs(ask(*things), answer)
+            self.assertEqual(repr(things), before)
+
+    def assert_own(self, ask, *things):
+        """What is told is made anew each time: whatever is done to it, the next answer is the same."""
+        with self.subTest(ask=ask, things=things):
+            before = repr(things)
+            told = ask(*things)
+            first = repr(told)
+            spoil(told)
+            self.assertEqual(repr(ask(*things)), first)
+            self.assertEqual(repr(things), before)
 
     def assert_set(self, told):
         """What was told is a set, by the words of point 10."""

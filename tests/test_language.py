@@ -83,6 +83,36 @@ class Language(unittest.TestCase):
                         self.assertRegex(node.module, r"^fewsumlots\.[a-z0-9_]+$")
                         self.assertNotIn("*", [alias.name for alias in node.names])
 
+    def test_imports_name_the_very_file_and_go_in_no_circle(self):
+        defined = {}
+        wanted = {}
+        for path, tree in trees():
+            names = [node.name for node in tree.body if isinstance(node, (ast.FunctionDef, ast.ClassDef))]
+            values = [target.id for node in tree.body if isinstance(node, ast.Assign) for target in node.targets]
+            self.assertEqual(len(set(names + values)), len(names + values), path)
+            defined[f"fewsumlots.{path.stem}"] = names + values
+            wanted[f"fewsumlots.{path.stem}"] = [node for node in tree.body if isinstance(node, ast.ImportFrom)]
+        for nodes in wanted.values():
+            for node in nodes:
+                for alias in node.names:
+                    with self.subTest(module=node.module, name=alias.name):
+                        self.assertIn(alias.name, defined[node.module])
+        left = {name: {node.module for node in nodes} for name, nodes in wanted.items()}
+        while left:
+            ready = [name for name in left if not left[name] & set(left)]
+            self.assertTrue(ready, sorted(left))
+            left = {name: left[name] for name in left if name not in ready}
+
+    def test_locals_have_no_name_of_an_import_or_class(self):
+        for path, tree in trees():
+            imported = {alias.name for node in tree.body if isinstance(node, ast.ImportFrom) for alias in node.names}
+            imported |= {node.name for node in tree.body if isinstance(node, ast.ClassDef)}
+            for function in ast.walk(tree):
+                if isinstance(function, ast.FunctionDef):
+                    with self.subTest(path=path.name, name=function.name):
+                        inner = [name for part in function.body + [function.args] for name in bound_names(part)]
+                        self.assertFalse(imported & set(inner))
+
     def test_names(self):
         for path, tree in trees():
             known = set(bound_names(tree))

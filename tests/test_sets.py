@@ -214,8 +214,7 @@ class HandedIn(Case):
 
     def test_no_set_is_refused_ahead_of_all_else(self):
         for ask in self.ASKS:
-            for thing in things_that_are_no_sets():
-                self.assert_refused(NoSet, ask, thing)
+            self.assert_needs_set(ask)
 
     def test_sixty_are_let_by_and_sixty_one_are_not(self):
         self.assertEqual(moved(SIXTY, 1), tuple(range(1, 61)))
@@ -223,7 +222,6 @@ class HandedIn(Case):
         self.assertEqual(form(SIXTY), SIXTY)
         for ask in self.ASKS:
             self.assert_refused(NoSet, ask, SIXTY_ONE)
-            self.assert_refused(NoSet, ask, tuple(range(0, 9000, 3)))
 
 
 if __name__ == "__main__":
