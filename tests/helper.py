@@ -90,6 +90,23 @@ def sets_of_many_forms():
     ]
 
 
+def sets_of_round(m):
+    """All sets of a round."""
+    return small_sets(0, m - 1, m)
+
+
+def scattered_sets_of_round(m):
+    """None, one, all, whole rows of each step that divides the size, and sets here and there."""
+    told = [(), (0,), (m - 1,), tuple(range(m)), tuple(range(m - 1)), tuple(range(m // 2))]
+    for step in [step for step in range(1, m + 1) if m % step == 0]:
+        told += [tuple(range(0, m, step)), tuple(range(step - 1, m, step)), tuple(range(0, m, step))[1:]]
+    seed = 54321 + m
+    for _ in range(6):
+        seed = (seed * 6364136223846793005 + 1442695040888963407) % 2 ** 64
+        told.append(tuple(number for number in range(m) if seed >> (number + 11) & 1))
+    return sorted(set(told))
+
+
 def things_of_other_kinds():
     """Things that are none of whatever is asked for."""
     told = things_that_are_no_numbers() + things_that_are_no_tuples() + [5, (1, 2, 3), [None], (None, None)]
@@ -162,6 +179,18 @@ class Case(unittest.TestCase):
         self.assertNotEqual(too_many, no_set)
         self.assertEqual(self.assert_refused(errors.NoSet, ask, SIXTY_ONE, None), too_many)
         self.assertEqual(self.assert_refused(errors.NoSet, ask, None, SIXTY_ONE), no_set)
+
+    def assert_needs_round(self, ask):
+        """What is no size of a round is refused ahead of all else."""
+        for thing in things_that_are_no_numbers() + [0, -1, 41, 42, 1000, -40, FAR, -FAR, 40.0]:
+            self.assert_refused(errors.NoRound, ask, thing)
+
+    def assert_needs_set_of_round(self, ask):
+        """What is no set of the round is refused, where the size is one."""
+        for m in (1, 2, 12, 39, 40):
+            outside = [(m,), (-1,), (0, m), (-1, 0), (FAR,), (-FAR, 0), (0, FAR), tuple(range(m + 1)), SIXTY_ONE]
+            for thing in things_that_are_no_sets() + outside:
+                self.assert_refused(errors.NoSet, ask, m, thing)
 
     def assert_answer(self, answer, ask, *things):
         """The answer is this truth itself, and what was handed in stays as it was."""
