@@ -1,7 +1,7 @@
 """Keepers of sets of a round, sets filled by them, and how few sums two sets can have there."""
 
 from fewsumlots.errors import NoNumber
-from fewsumlots.rounds import need_round, need_round_and_set, need_round_and_sets, round_sums, round_turned
+from fewsumlots.rounds import need_round, need_round_and_set, round_sums, round_turned
 from fewsumlots.sets import is_whole
 
 
@@ -28,7 +28,6 @@ def filled(m, some, step):
 
 def kept_sums(m, one, other):
     """Tell how many sums two sets of a round have, their keeper, and how many both have when filled by it."""
-    need_round_and_sets(m, one, other)
     told = round_sums(m, one, other)
     step = keeper(m, told)
     return (len(told), step, len(filled(m, one, step)), len(filled(m, other, step)))

@@ -72,13 +72,18 @@ def scattered_sets():
 
 
 def spoil(thing):
-    """Change each list in a thing, those within others too."""
+    """Change each list and dict in a thing, those within others too."""
     if isinstance(thing, (list, tuple)):
         for part in thing:
             spoil(part)
     if isinstance(thing, list):
         thing.reverse()
         thing.append("spoilt")
+    if isinstance(thing, dict):
+        for part in thing.values():
+            spoil(part)
+        thing.clear()
+        thing["spoilt"] = "spoilt"
 
 
 def sets_of_many_forms():
